@@ -1,0 +1,1 @@
+"""Fareweb: rides through zones that never cost more than the least tickets."""
