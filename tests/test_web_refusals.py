@@ -2,28 +2,11 @@
 
 import unittest
 
-from fareweb import errors
-from fareweb.errors import BadLink, BadStop, FareError, NoWay
+from fareweb.errors import BadLink, BadStop, NoWay
 from fareweb.web import Web
+from refusals import LARGE, RefusalCase
 
-KINDS = [
-    errors.BadLink, errors.BadStop, errors.NoWay, errors.BadPrices, errors.BadZones, errors.PastDay,
-]
 GOOD = [(0, 1), (1, 2), (2, 0), (3, 2)]
-# Of more figures than Python writes out, so that no message may name it.
-LARGE = 10 ** 5000
-
-
-class RefusalCase(unittest.TestCase):
-    def assert_refused(self, kind, ask, *told):
-        """The asking is refused by just this kind, which FareError and ValueError take too."""
-        for taken in (kind, FareError, ValueError):
-            self.assertRaises(taken, ask, *told)
-        try:
-            ask(*told)
-        except FareError as refusal:
-            taken = [other for other in KINDS if isinstance(refusal, other)]
-            self.assertEqual(taken, [kind])
 
 
 class Links(RefusalCase):
